@@ -1,0 +1,1 @@
+"""Bobbin lace: workings that are one lace."""
