@@ -1,36 +1,7 @@
 import unittest
 
 from bobbinlace.desk import ends
-
-GREATEST = 4294967295
-
-
-def some_working(n, length, seed):
-    """A working that is the same each time, spread over all acts of n pairs."""
-    acts = [k for k in range(n)] + [64 + k for k in range(n - 1)]
-    working = []
-    for _ in range(length):
-        seed = (seed * 1103515245 + 12345) % 2 ** 31
-        working.append(acts[(seed >> 8) % len(acts)])
-    return working
-
-
-def places_of(act):
-    if act < 64:
-        return (2 * act, 2 * act + 1)
-    return (2 * (act - 64) + 1, 2 * (act - 64) + 2)
-
-
-def place_of_thread(thread, working):
-    """Follows one thread alone, apart from the others."""
-    place = thread
-    for act in working:
-        here, there = places_of(act)
-        if place == here:
-            place = there
-        elif place == there:
-            place = here
-    return place
+from helpers import GREATEST, lawful_changes, place_of_thread, some_working
 
 
 def followed(n, working):
@@ -75,13 +46,10 @@ class OrdinaryWorkings(unittest.TestCase):
 
     def test_lawful_changes_leave_the_end(self):
         working = some_working(6, 60, 5)
-        changed = 0
-        for k in range(len(working) - 1):
-            if not set(places_of(working[k])) & set(places_of(working[k + 1])):
-                other = working[:k] + [working[k + 1], working[k]] + working[k + 2:]
-                self.assertEqual(ends(6, other), ends(6, working))
-                changed += 1
-        self.assertGreater(changed, 10)
+        changed = list(lawful_changes(working))
+        self.assertGreater(len(changed), 10)
+        for other in changed:
+            self.assertEqual(ends(6, other), ends(6, working))
 
 
 class Bounds(unittest.TestCase):

@@ -4,6 +4,7 @@ import contextlib
 import inspect
 import io
 import pathlib
+import sys
 import unittest
 
 import bobbinlace
@@ -11,15 +12,24 @@ from bobbinlace import desk
 
 PACKAGE = pathlib.Path(bobbinlace.__file__).parent
 
+CALLS = (
+    (desk.right, ["n", "a"]),
+    (desk.ends, ["n", "a"]),
+    (desk.thread, ["n", "t", "a"]),
+    (desk.form, ["n", "a"]),
+)
+
 INPUTS = (
-    (2, [64, 0, 1, 64]),
-    (1, []),
-    (32, [31, 94] * 256),
-    (32, [0] * 600),
-    (0, [0]),
-    (3, [0, 3, 255]),
-    (1, [0, 64]),
-    (4294967295, [255]),
+    {"n": 2, "t": 3, "a": [64, 0, 1, 64]},
+    {"n": 1, "t": 0, "a": []},
+    {"n": 3, "t": 1, "a": [65, 2, 0, 64, 1]},
+    {"n": 32, "t": 63, "a": [31, 94] * 256},
+    {"n": 32, "t": 64, "a": [0] * 512},
+    {"n": 32, "t": 0, "a": [0] * 600},
+    {"n": 0, "t": 0, "a": [0]},
+    {"n": 3, "t": 2, "a": [0, 3, 255]},
+    {"n": 1, "t": 1, "a": [0, 64]},
+    {"n": 4294967295, "t": 4294967295, "a": [255]},
 )
 
 
@@ -33,54 +43,81 @@ class Unchanging(list):
     append = clear = extend = insert = pop = remove = reverse = sort = refuse
 
 
-def calls():
-    return (desk.right, desk.ends)
+def arguments(names, given, made=list):
+    """What is handed in for the names, in their order, each list made anew."""
+    return [made(given[name]) if isinstance(given[name], list) else given[name] for name in names]
+
+
+def each_call():
+    """Every call with every input."""
+    for call, names in CALLS:
+        for given in INPUTS:
+            yield call, names, given
 
 
 class EveryCall(unittest.TestCase):
     def test_arguments(self):
-        for call in calls():
-            self.assertEqual(list(inspect.signature(call).parameters), ["n", "a"])
-            self.assertEqual(call(n=2, a=[64]), call(2, [64]))
+        for call, names in CALLS:
+            parameters = inspect.signature(call).parameters
+            self.assertEqual(list(parameters), names)
+            for parameter in parameters.values():
+                self.assertIs(parameter.default, inspect.Parameter.empty)
+            named = {name: INPUTS[0][name] for name in names}
+            self.assertEqual(call(**named), call(*arguments(names, INPUTS[0])))
 
     def test_answers_are_lists_of_whole_numbers(self):
-        for call in calls():
-            for n, a in INPUTS:
-                answer = call(n, a)
-                self.assertIs(type(answer), list)
-                for number in answer:
-                    self.assertIs(type(number), int)
+        for call, names, given in each_call():
+            answer = call(*arguments(names, given))
+            self.assertIs(type(answer), list)
+            for number in answer:
+                self.assertIs(type(number), int)
+
+    def test_a_refusal_stands_alone(self):
+        for call, names, given in each_call():
+            answer = call(*arguments(names, given))
+            if answer[0] < 0:
+                self.assertEqual(len(answer), 2 if call is desk.right and answer[0] == -5 else 1)
+            else:
+                self.assertEqual(answer[0], 0)
 
     def test_what_is_handed_in_stays(self):
-        for call in calls():
-            for n, a in INPUTS:
-                before = list(a)
-                call(n, a)
-                self.assertEqual(a, before)
-                call(n, Unchanging(a))
+        for call, names, given in each_call():
+            handed_in = arguments(names, given)
+            call(*handed_in)
+            self.assertEqual(handed_in, arguments(names, given))
+            call(*arguments(names, given, Unchanging))
 
     def test_a_second_call_answers_as_the_first(self):
-        for call in calls():
-            first = [call(n, list(a)) for n, a in INPUTS]
-            second = [call(n, list(a)) for n, a in reversed(INPUTS)]
+        for call, names in CALLS:
+            first = [call(*arguments(names, given)) for given in INPUTS]
+            second = [call(*arguments(names, given)) for given in reversed(INPUTS)]
             self.assertEqual(first, second[::-1])
 
     def test_an_answer_is_the_callers_own(self):
-        for call in calls():
-            for n, a in INPUTS:
-                answer = call(n, a)
-                expected = list(answer)
-                answer.append(7)
-                answer[0] = 9
-                self.assertEqual(call(n, a), expected)
+        for call, names, given in each_call():
+            handed_in = arguments(names, given)
+            answer = call(*handed_in)
+            expected = list(answer)
+            answer.append(7)
+            answer[0] = 9
+            self.assertEqual(handed_in, arguments(names, given))
+            self.assertEqual(call(*handed_in), expected)
 
     def test_nothing_is_printed(self):
         out = io.StringIO()
         with contextlib.redirect_stdout(out), contextlib.redirect_stderr(out):
-            for call in calls():
-                for n, a in INPUTS:
-                    call(n, a)
+            for call, names, given in each_call():
+                call(*arguments(names, given))
         self.assertEqual(out.getvalue(), "")
+
+    def test_long_inputs_are_gone_through_by_loops(self):
+        before = sys.getrecursionlimit()
+        sys.setrecursionlimit(len(inspect.stack()) + 50)
+        try:
+            for call, names, given in each_call():
+                call(*arguments(names, given))
+        finally:
+            sys.setrecursionlimit(before)
 
 
 class PackageFiles(unittest.TestCase):

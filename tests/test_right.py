@@ -1,13 +1,7 @@
 import unittest
 
 from bobbinlace.desk import right
-
-GREATEST = 4294967295
-
-
-def acts_of(n):
-    """All acts of n pairs, written out as the document tells them."""
-    return [k for k in range(n)] + [64 + k for k in range(n - 1)]
+from helpers import GREATEST, acts_of
 
 
 class OrdinaryWorkings(unittest.TestCase):
