@@ -34,13 +34,15 @@ def first_wrong(n, a):
     return len(a)
 
 
-def refusal(n, a):
-    """The number of the first refusal that holds, or 0."""
-    # The bounds go first: a list that is too long is refused for that, whatever it holds.
-    if out_of_bounds(n, a):
-        return -1
-    if first_wrong(n, a) < len(a):
-        return -5
+def refusal(n, workings):
+    """The number of the first refusal that holds for the workings, or 0."""
+    # The bounds go first: a list that is too long is refused for that, whatever it or another one holds.
+    for working in workings:
+        if out_of_bounds(n, working):
+            return -1
+    for working in workings:
+        if first_wrong(n, working) < len(working):
+            return -5
     return 0
 
 
@@ -95,7 +97,8 @@ def is_first(rows, act):
     """Whether a working of the lace in the rows begins with the act: nothing that touches it stands ahead of it."""
     here = rows[left_place(act)]
     there = rows[left_place(act) + 1]
-    return len(here) > 0 and len(there) > 0 and here[-1] == act and there[-1] == act
+    # Slices, since a row may be empty.
+    return here[-1:] == [act] and there[-1:] == [act]
 
 
 def take_first(rows, act):
@@ -105,22 +108,43 @@ def take_first(rows, act):
     rows[place + 1].pop()
 
 
-def form_of(n, a):
-    """The form of the working a's lace."""
-    rows = rows_of(n, a)
+def shared_firsts(acts, laces):
+    """Those of the acts with which each of the laces can begin."""
+    found = []
+    for act in acts:
+        if all([is_first(rows, act) for rows in laces]):
+            found.append(act)
+    return found
+
+
+def take_shared(n, laces):
+    """Takes off the laces, each given in its rows, the longest beginning that all of them have; answers its form."""
     acts = all_acts(n)
     taken = []
-    while len(taken) < len(a):
-        # The form is the least by its first act, then by its second: so each time the least one that can be first.
-        least = min([act for act in acts if is_first(rows, act)])
-        take_first(rows, least)
-        taken.append(least)
+    firsts = shared_firsts(acts, laces)
+    while len(firsts) > 0:
+        # Acts with which one lace can begin don't touch: whichever is taken, the others still can be. So the least one,
+        # as the form asks.
+        for rows in laces:
+            take_first(rows, firsts[0])
+        taken.append(firsts[0])
+        firsts = shared_firsts(acts, laces)
     return taken
+
+
+def form_of(n, a):
+    """The form of the working a's lace."""
+    return take_shared(n, [rows_of(n, a)])
+
+
+def common_of(n, a, b):
+    """The form of the common beginning of the laces of a and b."""
+    return take_shared(n, [rows_of(n, a), rows_of(n, b)])
 
 
 def right(n, a):
     """[0] if a is a working of n pairs, else the refusal; behind -5 the place of the first number that is no act."""
-    refused = refusal(n, a)
+    refused = refusal(n, [a])
     if refused == -5:
         return [-5, first_wrong(n, a)]
     return [refused]
@@ -128,7 +152,7 @@ def right(n, a):
 
 def ends(n, a):
     """[0] and the thread at each of the 2 n places behind the working a, or the refusal."""
-    refused = refusal(n, a)
+    refused = refusal(n, [a])
     if refused != 0:
         return [refused]
     return [0] + threads_behind(n, a)
@@ -139,7 +163,7 @@ def thread(n, t, a):
     # A t that is no thread is refused like n, so ahead of a number that is no act.
     if t >= 2 * n:
         return [-1]
-    refused = refusal(n, a)
+    refused = refusal(n, [a])
     if refused != 0:
         return [refused]
     return [0] + ways_of(n, t, a)
@@ -147,7 +171,23 @@ def thread(n, t, a):
 
 def form(n, a):
     """[0] and the form of the working a's lace, or the refusal."""
-    refused = refusal(n, a)
+    refused = refusal(n, [a])
     if refused != 0:
         return [refused]
     return [0] + form_of(n, a)
+
+
+def same(n, a, b):
+    """[0, 1] if the workings a and b are the same lace, [0, 0] if they are not, or the refusal."""
+    refused = refusal(n, [a, b])
+    if refused != 0:
+        return [refused]
+    return [0, 1 if rows_of(n, a) == rows_of(n, b) else 0]
+
+
+def common(n, a, b):
+    """[0] and the form of the common beginning of the laces of a and b, or the refusal."""
+    refused = refusal(n, [a, b])
+    if refused != 0:
+        return [refused]
+    return [0] + common_of(n, a, b)

@@ -68,21 +68,75 @@ def stirred(working, seed):
     return stirred_one
 
 
+def beginnings_of(working):
+    """All workings that are a beginning of the lace, as a set of tuples."""
+    return {one[:length] for one in lace_of(working) for length in range(len(one) + 1)}
+
+
+def slow_common(one, other):
+    """The form of the common beginning of two short workings, by all beginnings of both."""
+    both = beginnings_of(one) & beginnings_of(other)
+    longest = max(len(beginning) for beginning in both)
+    return list(min(beginning for beginning in both if len(beginning) == longest))
+
+
+def free_places(working):
+    """The acts that nothing ahead of them touches, with their places in the working."""
+    free = {}
+    held = set()
+    for place, act in enumerate(working):
+        if not held & set(places_of(act)):
+            free[act] = place
+        held.update(places_of(act))
+    return free
+
+
 def slow_form(working):
-    """The form, by searching what's left for the acts that nothing ahead of them touches."""
+    """The form of a working of any length."""
     rest = list(working)
     found = []
     while rest:
-        free = []
-        held = set()
-        for place, act in enumerate(rest):
-            if not held & set(places_of(act)):
-                free.append((act, place))
-            held.update(places_of(act))
-        act, place = min(free)
-        found.append(act)
-        rest.pop(place)
+        free = free_places(rest)
+        found.append(min(free))
+        rest.pop(free[min(free)])
     return found
+
+
+def split_off(one, other):
+    """The common beginning of two workings of any length, and what's left of each of them."""
+    rests = [list(one), list(other)]
+    found = []
+    while True:
+        free = [free_places(rest) for rest in rests]
+        both = [act for act in free[0] if act in free[1]]
+        if not both:
+            return found, rests[0], rests[1]
+        # Any of them will do: the last one, to go another way than the form's.
+        act = max(both)
+        found.append(act)
+        for rest, places in zip(rests, free):
+            rest.pop(places[act])
+
+
+def short_pairs():
+    """For small n, every two short workings."""
+    for n, most in ((1, 4), (2, 3), (3, 2), (4, 2)):
+        workings = list(each_working(n, most))
+        for one in workings:
+            for other in workings:
+                yield n, one, other
+
+
+def drawn_pairs(lengths, count):
+    """Pairs of workings of several n that begin alike up to lawful changes and then part, or don't."""
+    for n in (2, 3, 4, 5):
+        for length in lengths:
+            for seed in range(count):
+                drawn = 1000 * n + 37 * length + seed
+                alike = some_working(n, seed % (length + 1), drawn)
+                one = alike + some_working(n, length - len(alike), drawn + 1)
+                other = alike + some_working(n, length - len(alike) - (seed % 2) * (length > len(alike)), drawn + 2)
+                yield n, stirred(one, drawn), stirred(other, drawn + 3)
 
 
 def place_of_thread(thread, working):

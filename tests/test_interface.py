@@ -17,19 +17,25 @@ CALLS = (
     (desk.ends, ["n", "a"]),
     (desk.thread, ["n", "t", "a"]),
     (desk.form, ["n", "a"]),
+    (desk.same, ["n", "a", "b"]),
+    (desk.common, ["n", "a", "b"]),
 )
 
 INPUTS = (
-    {"n": 2, "t": 3, "a": [64, 0, 1, 64]},
-    {"n": 1, "t": 0, "a": []},
-    {"n": 3, "t": 1, "a": [65, 2, 0, 64, 1]},
-    {"n": 32, "t": 63, "a": [31, 94] * 256},
-    {"n": 32, "t": 64, "a": [0] * 512},
-    {"n": 32, "t": 0, "a": [0] * 600},
-    {"n": 0, "t": 0, "a": [0]},
-    {"n": 3, "t": 2, "a": [0, 3, 255]},
-    {"n": 1, "t": 1, "a": [0, 64]},
-    {"n": 4294967295, "t": 4294967295, "a": [255]},
+    {"n": 2, "t": 3, "a": [64, 0, 1, 64], "b": [64, 1, 0, 64]},
+    {"n": 2, "t": 0, "a": [64, 1], "b": [64, 1, 0, 64]},
+    {"n": 1, "t": 0, "a": [], "b": []},
+    {"n": 3, "t": 1, "a": [65, 2, 0, 64, 1], "b": [65, 0, 0, 2]},
+    {"n": 4, "t": 7, "a": [66, 0, 2], "b": [1, 0, 66]},
+    {"n": 32, "t": 63, "a": [31, 94] * 256, "b": [0, 64] * 256},
+    {"n": 32, "t": 64, "a": [0] * 512, "b": [0] * 511},
+    {"n": 32, "t": 0, "a": [0] * 600, "b": [0]},
+    {"n": 32, "t": 0, "a": [0], "b": [255] * 513},
+    {"n": 0, "t": 0, "a": [0], "b": [0]},
+    {"n": 3, "t": 2, "a": [0, 3, 255], "b": []},
+    {"n": 3, "t": 2, "a": [0, 65], "b": [0, 65, 66]},
+    {"n": 1, "t": 1, "a": [0, 64], "b": [64]},
+    {"n": 4294967295, "t": 4294967295, "a": [255], "b": [255]},
 )
 
 
@@ -86,6 +92,14 @@ class EveryCall(unittest.TestCase):
             call(*handed_in)
             self.assertEqual(handed_in, arguments(names, given))
             call(*arguments(names, given, Unchanging))
+
+    def test_one_list_handed_in_twice(self):
+        for call, names, given in each_call():
+            if "b" in names:
+                a = Unchanging(given["a"])
+                answer = call(given["n"], a, a)
+                self.assertEqual(a, given["a"])
+                self.assertEqual(answer, call(given["n"], list(a), list(a)))
 
     def test_a_second_call_answers_as_the_first(self):
         for call, names in CALLS:
