@@ -132,6 +132,14 @@ def take_shared(n, laces):
     return taken
 
 
+def have_a_place_in_common(rows, others):
+    """Whether an act of the lace in the rows touches one of the lace in the others."""
+    for row, other in zip(rows, others):
+        if len(row) > 0 and len(other) > 0:
+            return True
+    return False
+
+
 def form_of(n, a):
     """The form of the working a's lace."""
     return take_shared(n, [rows_of(n, a)])
@@ -191,3 +199,29 @@ def common(n, a, b):
     if refused != 0:
         return [refused]
     return [0] + common_of(n, a, b)
+
+
+def left(n, a, b):
+    """[0] and the form of what's left of b behind a, or the refusal: -6 if a is no beginning of b."""
+    refused = refusal(n, [a, b])
+    if refused != 0:
+        return [refused]
+    rows = rows_of(n, b)
+    begun = take_shared(n, [rows_of(n, a), rows])
+    # A beginning has nothing beyond the common one.
+    if len(begun) < len(a):
+        return [-6]
+    return [0] + take_shared(n, [rows])
+
+
+def joined(n, a, b):
+    """[0] and the form of the joined one of a and b, or the refusal: -6 if there is none."""
+    refused = refusal(n, [a, b])
+    if refused != 0:
+        return [refused]
+    rows = rows_of(n, a)
+    others = rows_of(n, b)
+    begun = take_shared(n, [rows, others])
+    if have_a_place_in_common(rows, others):
+        return [-6]
+    return [0] + form_of(n, begun + take_shared(n, [rows]) + take_shared(n, [others]))

@@ -80,6 +80,12 @@ def slow_common(one, other):
     return list(min(beginning for beginning in both if len(beginning) == longest))
 
 
+def slow_left(one, other):
+    """The form of what's left of the other behind the one, by all workings of the other; None if there's none."""
+    behind = [working[len(one):] for working in lace_of(other) if working[:len(one)] == tuple(one)]
+    return list(min(behind)) if behind else None
+
+
 def free_places(working):
     """The acts that nothing ahead of them touches, with their places in the working."""
     free = {}
@@ -118,9 +124,13 @@ def split_off(one, other):
             rest.pop(places[act])
 
 
+# Small n, and how many acts a working has at most that every working is paired with.
+SHORT = ((1, 4), (2, 3), (3, 2), (4, 2))
+
+
 def short_pairs():
     """For small n, every two short workings."""
-    for n, most in ((1, 4), (2, 3), (3, 2), (4, 2)):
+    for n, most in SHORT:
         workings = list(each_working(n, most))
         for one in workings:
             for other in workings:

@@ -19,6 +19,8 @@ CALLS = (
     (desk.form, ["n", "a"]),
     (desk.same, ["n", "a", "b"]),
     (desk.common, ["n", "a", "b"]),
+    (desk.left, ["n", "a", "b"]),
+    (desk.joined, ["n", "a", "b"]),
 )
 
 INPUTS = (
