@@ -225,3 +225,13 @@ def joined(n, a, b):
     if have_a_place_in_common(rows, others):
         return [-6]
     return [0] + form_of(n, begun + take_shared(n, [rows]) + take_shared(n, [others]))
+
+
+def undone(n, a, b):
+    """[0], how many acts of a are undone at least, and how many worked then, to come to b's lace, or the refusal."""
+    refused = refusal(n, [a, b])
+    if refused != 0:
+        return [refused]
+    # The acts that are never undone begin both laces, so no more than the common beginning can stay.
+    begun = len(common_of(n, a, b))
+    return [0, len(a) - begun, len(b) - begun]

@@ -137,9 +137,9 @@ def short_pairs():
                 yield n, one, other
 
 
-def drawn_pairs(lengths, count):
+def drawn_pairs(lengths, count, several=(2, 3, 4, 5)):
     """Pairs of workings of several n that begin alike up to lawful changes and then part, or don't."""
-    for n in (2, 3, 4, 5):
+    for n in several:
         for length in lengths:
             for seed in range(count):
                 drawn = 1000 * n + 37 * length + seed

@@ -21,6 +21,7 @@ CALLS = (
     (desk.common, ["n", "a", "b"]),
     (desk.left, ["n", "a", "b"]),
     (desk.joined, ["n", "a", "b"]),
+    (desk.undone, ["n", "a", "b"]),
 )
 
 INPUTS = (
